@@ -1,4 +1,4 @@
-"""The package keeps to the part of Python that it's written in (L1 to L28, as far as a test can see them)."""
+"""The package keeps to the part of Python that it's written in: many of the rules L1 to L28, not all."""
 
 import ast
 import builtins
