@@ -1,8 +1,11 @@
 """Answers a list of calls on a new desk."""
 
 from nearsquares.deskcalls import DESK_CALLS
+from nearsquares.gapcalls import GAP_CALLS
 from nearsquares.movecalls import MOVE_CALLS
+from nearsquares.numbercalls import NUMBER_CALLS
 from nearsquares.paircalls import PAIR_CALLS
+from nearsquares.riddlecalls import RIDDLE_CALLS
 from nearsquares.state import Desk
 from nearsquares.telling import NOT_BEGUN
 from nearsquares.waycalls import WAY_CALLS
@@ -18,7 +21,13 @@ def call_of(number):
         return DESK_CALLS[number]
     if number in PAIR_CALLS:
         return PAIR_CALLS[number]
-    return WAY_CALLS[number]
+    if number in WAY_CALLS:
+        return WAY_CALLS[number]
+    if number in NUMBER_CALLS:
+        return NUMBER_CALLS[number]
+    if number in GAP_CALLS:
+        return GAP_CALLS[number]
+    return RIDDLE_CALLS[number]
 
 
 def answered(action, desk, row):
@@ -28,6 +37,8 @@ def answered(action, desk, row):
         return action(desk, row[0])
     if len(row) == 2:
         return action(desk, row[0], row[1])
+    if len(row) == 3:
+        return action(desk, row[0], row[1], row[2])
     return action(desk, row[0], row[1], row[2], row[3])
 
 

@@ -1,6 +1,6 @@
 """The desk's calls that change nothing: what is kept, and what is at hand."""
 
-from nearsquares.ladder import descent, number_of
+from nearsquares.ladder import descent, number_from
 from nearsquares.pairs import Pair, difference, joined
 from nearsquares.telling import NO_SUCH_KEPT, NO_SUCH_PAIR, WRONG_NUMBER, counted, with_difference
 
@@ -63,7 +63,7 @@ def kept(desk):
 def itsnumber(desk):
     if difference(desk.n, desk.hand) != 1:
         return [NO_SUCH_PAIR]
-    return [number_of(desk.n, desk.one, desk.hand)]
+    return [number_from(desk.n, desk.one, desk.hand.y)]
 
 
 def itsfirst(desk):

@@ -28,11 +28,11 @@ def descent(n, one, pair):
     return passed
 
 
-def number_of(n, one, pair):
-    """The number of a pair with the difference 1."""
+def number_from(n, one, b):
+    """The first number of a pair with the difference 1 whose y is b or more."""
     number = 0
     reached = Pair(1, 0)
-    while reached.y < pair.y:
+    while reached.y < b:
         reached = step_up(n, one, reached)
         number = number + 1
     return number

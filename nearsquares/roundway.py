@@ -40,6 +40,11 @@ def whole_way(n):
     return pairs
 
 
+def way_steps(n):
+    """How many steps n's way has."""
+    return len(whole_way(n)) - 1
+
+
 def least_pair(n):
     """The pair with the difference 1 that has the least y above 0."""
     return whole_way(n)[-1]

@@ -15,6 +15,10 @@ def with_difference(n, pair):
     return [0, pair.x, pair.y, difference(n, pair)]
 
 
+def without_difference(pair):
+    return [0, pair.x, pair.y]
+
+
 def counted(pairs):
     """How many pairs, then x, y of each."""
     row = [len(pairs)]

@@ -1,6 +1,8 @@
 """Calls by their names, for all tests."""
 
 import unittest
+from functools import cache
+from math import comb, isqrt
 
 from nearsquares.desk import answers
 
@@ -13,10 +15,19 @@ CALLS = {
     "told": (20, 0), "square": (21, 0), "power": (22, 1), "parted": (23, 2), "one": (24, 0),
     "nearest": (25, 1), "closest": (26, 1), "of": (27, 2), "both": (28, 4), "root": (29, 1),
     "steps": (30, 1), "way": (31, 0), "diffs": (32, 0), "leastof": (33, 1), "long": (34, 1),
+    "short": (35, 0), "longest": (36, 1), "greatest": (37, 1), "minus": (38, 1), "nth": (39, 2),
+    "number": (40, 2), "is": (41, 2), "above": (42, 1), "many": (43, 1), "divides": (44, 2),
+    "common": (45, 2), "together": (46, 2), "rule": (47, 1), "rootby": (48, 2), "leftof": (49, 2),
+    "round": (50, 1), "first": (51, 0), "isfirst": (52, 0), "firsts": (53, 2), "can": (54, 2),
+    "least": (55, 2), "upto": (56, 3), "manyupto": (57, 3), "bound": (58, 1), "which": (59, 2),
+    "withy": (60, 3), "other": (61, 0), "answer": (62, 2), "isanswer": (63, 2), "answernumber": (64, 2),
+    "answerabove": (65, 2), "manyanswers": (66, 2), "answers": (67, 2), "answerrule": (68, 2), "answerof": (69, 2),
 }
 
 GREATEST = 4294967295
 MILLION = 1000000
+BILLION = 1000000000
+WRONG_NS = (0, 1, 4, 9, 16, 25, 36, 49, 61, 62, 64, GREATEST)
 NS = [n for n in range(2, 61) if n not in (4, 9, 16, 25, 36, 49)]
 
 
@@ -53,6 +64,14 @@ def ask(*texts):
     return rows
 
 
+def ask_all(begin, texts):
+    """The answers to however many calls, in lines of at most 120, each of which begins anew."""
+    rows = []
+    for place in range(0, len(texts), 119):
+        rows += ask(begin, *texts[place:place + 119])[1:]
+    return rows
+
+
 def last(*texts):
     """The answer to the last of these calls."""
     return ask(*texts)[-1]
@@ -79,6 +98,7 @@ def gap(n, x, y):
     return x * x - n * y * y
 
 
+@cache
 def least_by_search(n):
     """The pair with the difference 1 that has the least y above 0, tried one by one."""
     y = 1
@@ -87,3 +107,31 @@ def least_by_search(n):
         if gap(n, x, y) == 1:
             return x, y
         y += 1
+
+
+def numbered(n, k):
+    """Pair number k of n: the least one to the power of k, by the binomial theorem."""
+    p, q = least_by_search(n)
+    terms = [comb(k, i) * p ** (k - i) * q ** i * n ** (i // 2) for i in range(k + 1)]
+    return sum(terms[0::2]), sum(terms[1::2])
+
+
+def pairs_by_search(n, most, b):
+    """For each difference of at most that much, either way, all pairs with y from 0 to b, by y."""
+    found = {}
+    for y in range(b + 1):
+        x = isqrt(max(n * y * y - most, 0))
+        while gap(n, x, y) <= most:
+            if abs(gap(n, x, y)) <= most and (x, y) != (0, 0):
+                found.setdefault(gap(n, x, y), []).append((x, y))
+            x += 1
+    return found
+
+
+def step_down(n, x, y):
+    p, q = least_by_search(n)
+    return abs(p * x - n * q * y), abs(p * y - q * x)
+
+
+def flat(pairs):
+    return [number for pair in pairs for number in pair]

@@ -180,6 +180,47 @@ class Language(unittest.TestCase):
                 inner = bound(ast.Module(node.body + [node.args], []))
                 self.assertEqual(set(inner) & set(fixed), set(), (path, node.name))
 
+    def test_lists_and_dicts_at_the_top_are_read_alone(self):
+        kept = {node.targets[0].id for path, tree in trees() for node in tree.body
+                if isinstance(node, ast.Assign) and isinstance(node.value, (ast.List, ast.Dict))}
+        self.assertIn("MOVE_CALLS", kept)
+        for path, tree in trees():
+            for node in tree.body:
+                if isinstance(node, ast.Assign):
+                    inner = [item for item in ast.walk(node.value) if isinstance(item, (ast.List, ast.Dict))]
+                    self.assertTrue(all(item is node.value for item in inner), path)
+            # An index that is read, or the right side of an `in`.
+            read = [node.value for node in ast.walk(tree)
+                    if isinstance(node, ast.Subscript) and isinstance(node.ctx, ast.Load)]
+            for node in ast.walk(tree):
+                if isinstance(node, ast.Compare) and isinstance(node.ops[0], (ast.In, ast.NotIn)):
+                    read.append(node.comparators[0])
+            for function in functions(tree):
+                for node in ast.walk(function):
+                    if isinstance(node, ast.Name) and node.id in kept:
+                        self.assertIn(node, read, (path, node.lineno))
+
+    def test_keywords_and_lambdas(self):
+        allowed = {"sorted": ("key", "reverse"), "min": ("key", "default"), "max": ("key", "default"),
+                   "sum": ("start",), "enumerate": ("start",), "zip": ("strict",)}
+        for path, tree in trees():
+            for node in ast.walk(tree):
+                if isinstance(node, ast.Call):
+                    for word in node.keywords:
+                        self.assertIn(word.arg, allowed.get(getattr(node.func, "id", None), ()), (path, node.lineno))
+            rows = [node.lineno for node in ast.walk(tree) if isinstance(node, ast.Lambda)]
+            self.assertEqual(len(rows), len(set(rows)), path)
+
+    def test_texts_sets_and_init(self):
+        for path, tree in trees():
+            for node in ast.walk(tree):
+                if isinstance(node, ast.Constant) and isinstance(node.value, str):
+                    self.assertNotIn("%", node.value, path)
+                if isinstance(node, ast.Name):
+                    self.assertNotIn(node.id, ("set", "frozenset"), path)
+                if isinstance(node, ast.FunctionDef) and node.name == "__init__":
+                    self.assertFalse(any(isinstance(item, ast.Return) for item in ast.walk(node)), path)
+
     def test_methods_of_pythons_own_values(self):
         own = {item.name for path, tree in trees() for node in tree.body if isinstance(node, ast.ClassDef)
                for item in node.body if isinstance(item, ast.FunctionDef)}

@@ -1,172 +1,33 @@
 """Long lines of calls against a second, plain telling of what the desk does."""
 
 import unittest
-from fractions import Fraction
-from math import isqrt, prod
 from random import Random
 
-from tests.lines import MILLION, NS, ask, gap, least_by_search
+from tests.lines import BILLION, CALLS, GREATEST, MILLION, NS, ask, numbered
+from tests.stagemodel import StageModel, answers_of
+
+STAGE_NAMES = [name for name, (number, size) in CALLS.items() if number > 20]
+
+# For each of the stages' arguments numbers of which most fit; others come, too.
+NEAR = {
+    "power": [range(14)], "parted": [range(10), range(10)], "nearest": [range(1002)], "closest": [range(62)],
+    "of": [range(100), range(100)], "both": [range(9)] * 4, "root": [range(10002)], "steps": [range(62)],
+    "leastof": [range(62)], "long": [range(62)], "longest": [range(62)], "greatest": [range(62)],
+    "minus": [range(62)], "nth": [range(62), range(14)], "number": [range(20), range(20)],
+    "is": [range(20), range(20)], "above": [range(10 ** 5)], "many": [range(10 ** 5)],
+    "divides": [range(14), range(14)], "common": [range(14), range(14)], "together": [range(14), range(14)],
+    "rule": [range(14)], "rootby": [range(14), range(MILLION + 9)], "leftof": [range(1002), range(14)],
+    "round": [range(102)], "firsts": [range(2), range(62)], "can": [range(2), range(62)],
+    "least": [range(2), range(62)], "upto": [range(2), range(62), range(302)],
+    "manyupto": [range(2), range(62), range(2002)], "bound": [range(62)], "which": [range(2), range(62)],
+    "withy": [range(2), range(62), range(9)], "answer": [range(6), range(14)],
+    "isanswer": [range(6), range(40)], "answernumber": [range(6), range(40)],
+    "answerabove": [range(6), range(BILLION + 9)], "manyanswers": [range(6), range(BILLION + 9)],
+    "answers": [range(6), range(2002)], "answerrule": [range(6), range(14)], "answerof": [range(6), range(40)],
+}
 
 
-class Model:
-    """The desk's own calls, worked out in other ways than the program's."""
-
-    def __init__(self):
-        self.n = None
-
-    def pair(self, x, y):
-        return [0, x, y, gap(self.n, x, y)]
-
-    def move(self, x, y):
-        if max(x, y) > MILLION:
-            return [-28]
-        self.past = [*self.past, self.hand][-12:]
-        self.hand = (x, y)
-        return self.pair(x, y)
-
-    def ask(self, name, *numbers):
-        if name == "begin":
-            return self.begin(*numbers)
-        if self.n is None:
-            return [-11]
-        return getattr(self, "ask_" + name)(*numbers)
-
-    def begin(self, n):
-        if n not in NS:
-            return [-22]
-        self.n, self.one, self.hand, self.store, self.past = n, least_by_search(n), (1, 0), [], []
-        return [0]
-
-    def ask_pair(self, x, y):
-        return [-22] if max(x, y) > MILLION or x == y == 0 else self.move(x, y)
-
-    def ask_keep(self):
-        if len(self.store) == 8:
-            return [-28]
-        self.store = self.store + [self.hand]
-        return [len(self.store) - 1]
-
-    def ask_drop(self, i):
-        if i not in range(len(self.store)):
-            return [-2]
-        self.store = self.store[:i] + self.store[i + 1:]
-        return [len(self.store)]
-
-    def ask_take(self, i):
-        return self.move(*self.store[i]) if i in range(len(self.store)) else [-2]
-
-    def ask_with(self, i):
-        if i not in range(len(self.store)):
-            return [-2]
-        (x, y), (u, v) = self.hand, self.store[i]
-        return self.move(x * u + self.n * y * v, x * v + y * u)
-
-    def ask_against(self, i):
-        if i not in range(len(self.store)):
-            return [-2]
-        (x, y), (u, v) = self.hand, self.store[i]
-        return self.move(abs(x * u - self.n * y * v), abs(x * v - y * u))
-
-    def ask_from(self, i):
-        if i not in range(len(self.store)):
-            return [-2]
-        (x, y), (u, v) = self.hand, self.store[i]
-        # By elimination: b of the one equation put into the other.
-        if u:
-            b = (y - Fraction(x * v, u)) / (u - Fraction(self.n * v * v, u))
-            a = (x - self.n * b * v) / u
-        else:
-            a, b = Fraction(y, v), Fraction(x, self.n * v)
-        if a.denominator != 1 or b.denominator != 1 or a < 0 or b < 0:
-            return [-33]
-        return self.move(int(a), int(b))
-
-    def below(self, x, y):
-        p, q = self.one
-        return abs(p * x - self.n * q * y), abs(p * y - q * x)
-
-    def bottom(self, x, y):
-        steps = 0
-        while steps < 100 and self.below(x, y)[1] < y:
-            x, y = self.below(x, y)
-            steps += 1
-        return steps, (x, y)
-
-    def ask_up(self):
-        (x, y), (p, q) = self.hand, self.one
-        return self.move(p * x + self.n * q * y, p * y + q * x)
-
-    def ask_down(self):
-        return self.move(*self.below(*self.hand)) if self.bottom(*self.hand)[0] else [-16]
-
-    def ask_makeone(self):
-        x, y = self.hand
-        difference = gap(self.n, x, y)
-        powers = {1: 1, -1: 2, 2: 2, -2: 2, 4: 1 if x % 2 == y % 2 == 0 else 2 if x % 2 == 0 else 3, -4: 6}
-        if difference not in powers:
-            return [-33]
-        # All ways are powers of the pair, divided by the root of their difference.
-        u, v = 1, 0
-        for turn in range(powers[difference]):
-            u, v = u * x + self.n * v * y, u * y + v * x
-        divisor = isqrt(difference ** powers[difference])
-        return self.move(u // divisor, v // divisor)
-
-    def ask_back(self):
-        if not self.past:
-            return [-6]
-        *self.past, self.hand = self.past
-        return self.pair(*self.hand)
-
-    def ask_all(self):
-        x, y = 1, 0
-        for u, v in self.store:
-            x, y = x * u + self.n * y * v, x * v + y * u
-        return [0, x, y, gap(self.n, x, y)]
-
-    def are_kin(self, one, other):
-        return gap(self.n, *one) == gap(self.n, *other) and self.bottom(*one)[1] == self.bottom(*other)[1]
-
-    def ask_kin(self, i, j):
-        if i not in range(len(self.store)) or j not in range(len(self.store)):
-            return [-2]
-        return [int(self.are_kin(self.store[i], self.store[j]))]
-
-    def ask_families(self):
-        families = {tuple(j for j, other in enumerate(self.store) if self.are_kin(pair, other))
-                    for pair in self.store}
-        return [len(families)] + [number for row in sorted(families) for number in (row[0], len(row))]
-
-    def ask_sets(self, s, k):
-        if s > 1 or k > MILLION:
-            return [-22]
-        found = []
-        for mask in range(2 ** len(self.store)):
-            gaps = [gap(self.n, *pair) for i, pair in enumerate(self.store) if mask >> i & 1]
-            if prod(gaps) == k * (-1) ** s:
-                found.append(mask)
-        return [len(found)] + found
-
-    def ask_kept(self):
-        return [len(self.store)] + [number for pair in self.store for number in pair]
-
-    def ask_itsnumber(self):
-        if gap(self.n, *self.hand) != 1:
-            return [-33]
-        return [self.bottom(*self.hand)[0]]
-
-    def ask_itsfirst(self):
-        steps, (x, y) = self.bottom(*self.hand)
-        return [steps, x, y]
-
-    def ask_here(self):
-        return self.pair(*self.hand)
-
-    def ask_told(self):
-        return [self.n, *self.hand, len(self.store), len(self.past)]
-
-
-def random_call(source):
+def desk_call(source):
     """One of the desk's own calls; numbers that fit are likely, others come, too."""
     name = source.choice(["pair"] * 4 + ["keep"] * 4 + ["take", "with", "from", "against"] * 2
                          + ["drop", "up", "up", "down", "makeone", "back", "back", "all", "kin", "kin", "families",
@@ -188,21 +49,41 @@ def random_call(source):
     return name, numbers
 
 
+def stage_call(source, n):
+    """One of the stages' calls; now and then a number is one of those next to a bound, or a great one."""
+    name = source.choice(STAGE_NAMES)
+    numbers = [source.choice(near) for near in NEAR.get(name, [])]
+    if numbers and source.random() < 0.15:
+        numbers[source.randrange(len(numbers))] = source.choice(
+            [0, 1, 2, 12, 13, 60, 61, 300, 301, 1000, 2000, MILLION, MILLION + 1, BILLION, BILLION + 1, GREATEST])
+    elif name in ("number", "is") and source.random() < 0.5:
+        pair = numbered(n, source.randrange(18))
+        numbers = list(pair) if max(pair) <= GREATEST else numbers
+    elif name in ("isanswer", "answernumber", "answerof") and source.random() < 0.5:
+        numbers[0] = source.randrange(5)
+        numbers[1] = source.choice([value for value, row in answers_of(numbers[0]) if value <= BILLION])
+    return name, numbers
+
+
 class AgainstTheModel(unittest.TestCase):
-    def test_long_lines(self):
+    def compare(self, calls, seed, seen):
+        """Compares a line's answers with the model's, and counts how each call was answered."""
+        model = StageModel()
+        expected = [model.ask(name, *numbers) for name, numbers in calls]
+        rows = ask(*[" ".join([name, *map(str, numbers)]) for name, numbers in calls])
+        for call, row, wanted in zip(calls, rows, expected):
+            self.assertEqual(row, wanted, (seed, call))
+            outcome = (call[0], min(row[0], 0))
+            seen[outcome] = seen.get(outcome, 0) + 1
+
+    def test_the_desks_own_calls(self):
         seen = {}
         for seed in range(400):
             source = Random(seed)
             calls = [("begin", [source.choice(NS + [2, 2, 3, 5, 5, 4])])]
             while len(calls) < 120:
-                calls.append(("begin", [source.randint(0, 62)]) if source.random() < 0.01 else random_call(source))
-            model = Model()
-            expected = [model.ask(name, *numbers) for name, numbers in calls]
-            rows = ask(*[" ".join([name, *map(str, numbers)]) for name, numbers in calls])
-            for call, row, wanted in zip(calls, rows, expected):
-                self.assertEqual(row, wanted, (seed, call))
-                outcome = (call[0], min(row[0], 0))
-                seen[outcome] = seen.get(outcome, 0) + 1
+                calls.append(("begin", [source.randint(0, 62)]) if source.random() < 0.01 else desk_call(source))
+            self.compare(calls, seed, seen)
         # The lines must come by each answer that a call can give, or they show nothing.
         for outcome in (("begin", -22), ("pair", -22), ("keep", -28), ("drop", -2), ("take", -2), ("with", -2),
                         ("with", -28), ("from", -2), ("from", -33), ("from", 0), ("against", -2), ("against", -28),
@@ -210,6 +91,29 @@ class AgainstTheModel(unittest.TestCase):
                         ("makeone", -28), ("back", -6), ("kin", -2), ("sets", -22), ("itsnumber", -33),
                         ("itsnumber", 0), ("told", -11)):
             self.assertIn(outcome, seen)
+
+    def test_all_calls_mixed(self):
+        seen = {}
+        for seed in range(400):
+            source = Random(seed)
+            n = source.choice(NS + [2, 3, 46, 53, 4])
+            calls = [("begin", [n])]
+            while len(calls) < 120:
+                if source.random() < 0.01:
+                    n = source.randint(0, 62)
+                    calls.append(("begin", [n]))
+                calls.append(desk_call(source) if source.random() < 0.3 else stage_call(source, n if n in NS else 2))
+            self.compare(calls[:120], seed, seen)
+        self.assertEqual({name for name, refusal in seen}, set(CALLS))
+        for name in CALLS:
+            self.assertIn((name, 0), seen)
+        for name in STAGE_NAMES:
+            self.assertIn((name, -11), seen)
+            # These four refuse nothing for their numbers, whatever they are.
+            if name in NEAR and name not in ("number", "is", "above", "many"):
+                self.assertIn((name, -22), seen)
+        for name in ("parted", "one", "minus", "number", "least", "withy", "answernumber", "answerof"):
+            self.assertIn((name, -33), seen)
 
 
 if __name__ == "__main__":

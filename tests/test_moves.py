@@ -284,7 +284,14 @@ class Back(Asking):
         before = ["begin 2", *keeping((3, 2)), "pair 17 12"]
         asked = ["keep", "drop 1", "all", "kin 0 0", "families", "sets 0 1", "kept", "itsnumber", "itsfirst",
                  "here", "square", "power 3", "parted 3 2", "one", "nearest 5", "closest 5", "of 1 1",
-                 "both 1 1 1 1", "root 5", "steps 3", "way", "diffs", "leastof 3", "long 3"]
+                 "both 1 1 1 1", "root 5", "steps 3", "way", "diffs", "leastof 3", "long 3", "short", "longest 9",
+                 "greatest 9", "minus 5", "nth 3 2", "number 3 2", "is 3 2", "above 9", "many 9", "divides 1 2",
+                 "common 1 2", "together 1 2", "rule 2", "rootby 1 9", "leftof 5 2", "round 5", "first", "isfirst",
+                 "firsts 0 1", "can 0 1", "least 0 1", "upto 0 1 9", "manyupto 0 1 9", "bound 9", "which 0 9",
+                 "withy 0 1 2", "other", "answer 0 1", "isanswer 0 1", "answernumber 0 1", "answerabove 0 1",
+                 "manyanswers 0 1", "answers 0 1", "answerrule 0 3", "answerof 0 1"]
+        moves = ["begin", "pair", "take", "with", "from", "against", "up", "down", "makeone", "back", "told"]
+        self.assertEqual(sorted([text.split()[0] for text in asked] + moves), sorted(CALLS))
         for text in asked:
             self.assertEqual(last(*before, text, "told")[0:3], [2, 17, 12], text)
             self.assertEqual(last(*before, text, "told")[4], 2, text)
